@@ -1,9 +1,9 @@
-"""What arguments have to be: nets, states and deeds."""
+"""What arguments and evidence have to be: nets, states, deeds, and what consists of them."""
 
 from hearsayways.errors import BadNet, BadState
 from hearsayways.kinds import is_group, is_integer, is_within
 from hearsayways.nets import Net
-from hearsayways.steps import possible, standing_pairs
+from hearsayways.steps import behind, leads, possible, standing_pairs, start
 
 
 def need_net(net):
@@ -55,3 +55,30 @@ def is_deed(net, state, deed):
         return False
     # Booleans are equal to integers, so that the list of deeds alone would let them pass.
     return all([is_integer(number) for number in deed[1:]]) and deed in possible(net, state)
+
+
+def states_along(net, state, history):
+    """The states behind each deed of these, from a state on, up to the first deed that cannot be done then."""
+    states = []
+    for deed in history:
+        if not is_deed(net, state, deed):
+            break
+        state = behind(net, state, deed)
+        states.append(state)
+    return states
+
+
+def closed_links(net, states):
+    """A dict from each of these states to what leads from it.
+
+    None if one is no state of the net, the first one is not among them, or a deed leads to another one.
+    """
+    if not all([is_state(net, state) for state in states]):
+        return None
+    links = {state: leads(net, state) for state in states}
+    if start(net) not in links:
+        return None
+    for ahead in links.values():
+        if not all([later in links for deed, later in ahead]):
+            return None
+    return links

@@ -1,9 +1,5 @@
 """What can be done in a state and where it leads, for arguments that are known to be right."""
 
-from hearsayways.errors import TooLarge
-
-MOST_STATES = 800
-
 
 def start(net):
     """The state in which no host has heard anything yet, and all ties stand."""
@@ -102,30 +98,23 @@ def behind(net, state, deed):
     return entries, with_standing(stands, deed[1], True)
 
 
-def come_about(net):
-    """All states that come about, each once."""
-    found = [start(net)]
-    known = {found[0]: True}
-    at = 0
-    while at < len(found):
-        state = found[at]
-        for deed in possible(net, state):
-            later = behind(net, state, deed)
-            if later not in known:
-                known[later] = True
-                found.append(later)
-        if len(found) > MOST_STATES:
-            raise TooLarge("more than 800 states come about")
-        at += 1
-    return found
+def leads(net, state):
+    """The pairs of each deed that can be done in a state, in order, and the state behind it."""
+    return [(deed, behind(net, state, deed)) for deed in possible(net, state)]
+
+
+def least_ties(net, stands):
+    """For each host the least number of ties that stand on a way to the host 0, None if there is no way."""
+    least = [0] + [None for _ in range(1, net.hosts)]
+    pairs = standing_pairs(net, stands)
+    # A shortest way has fewer ties than there are hosts.
+    for many in range(1, net.hosts):
+        for nearer, farther in pairs:
+            if least[nearer] == many - 1 and least[farther] is None:
+                least[farther] = many
+    return least
 
 
 def true_distances(net, stands):
-    """The least numbers of ties that stand from each host to the host 0, at most the endless distance."""
-    far = [0] + [net.endless for _ in range(1, net.hosts)]
-    pairs = standing_pairs(net, stands)
-    # A shortest way has fewer ties than there are hosts, so this many rounds find each.
-    for _ in range(1, net.hosts):
-        for nearer, farther in pairs:
-            far[farther] = min(far[farther], far[nearer] + 1)
-    return far
+    """The true distances of all hosts: their least numbers of ties, at most the endless distance."""
+    return [net.endless if many is None else min(many, net.endless) for many in least_ties(net, stands)]

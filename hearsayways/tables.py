@@ -1,8 +1,9 @@
 """States, the deeds that can be done in them, and the states that come about."""
 
-from hearsayways.checks import is_deed, need_net, need_state
+from hearsayways.checks import is_deed, need_net, need_state, states_along
 from hearsayways.errors import BadDeed, BadWeaving
-from hearsayways.steps import behind, come_about, possible, start, true_distances
+from hearsayways.steps import behind, possible, start, true_distances
+from hearsayways.walks import come_about
 
 
 def first_state(net):
@@ -39,13 +40,9 @@ def woven(net, history):
     need_net(net)
     if not isinstance(history, (list, tuple)):
         raise BadWeaving(None)
-    states = []
-    state = start(net)
-    for at, deed in enumerate(history):
-        if not is_deed(net, state, deed):
-            raise BadWeaving(at)
-        state = behind(net, state, deed)
-        states.append(state)
+    states = states_along(net, start(net), history)
+    if len(states) < len(history):
+        raise BadWeaving(len(states))
     return states
 
 

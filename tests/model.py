@@ -147,3 +147,128 @@ def is_state(net, state):
         if way is not None and (hold or frozenset((way, host)) not in joined):
             return False
     return True
+
+
+WISHES = ("climb", "misled", "ring", "wrong")
+
+
+def reaches_place(net, stands, host):
+    """Whether ties that stand lead from a host to the host 0, by flooding."""
+    wet = {host}
+    for _ in range(net.hosts):
+        wet |= {other for at, tie in enumerate(net.ties) if stands[at] and wet & set(tie) for other in tie}
+    return 0 in wet
+
+
+def is_settled(net, state):
+    return all(behind(net, state, deed) == state for deed in Model(net, state).deeds() if deed[0] == "tell")
+
+
+def broken_in(net, state):
+    """The wishes that a state breaks."""
+    model = Model(net, state)
+    broken = set()
+    for host in model.way:
+        path = [host]
+        while model.way.get(path[-1]) is not None and path.count(path[-1]) == 1:
+            path.append(model.way[path[-1]])
+        if path.count(path[-1]) == 2:
+            broken.add("ring")
+    if is_settled(net, state) and any(model.distance[host] != model.true(host) for host in model.distance):
+        broken.add("wrong")
+    return broken
+
+
+def broken_through(net, state, deed):
+    """The wishes that a deed in a state breaks."""
+    if deed[0] != "tell":
+        return set()
+    before, after = state[0][deed[2] - 1][0], behind(net, state, deed)[0][deed[2] - 1][0]
+    broken = set()
+    if before < after and after != net.endless:
+        broken.add("climb")
+    if before == net.endless and after != net.endless and not reaches_place(net, state[1], deed[2]):
+        broken.add("misled")
+    return broken
+
+
+class Account:
+    """All states that come about, with the least number of deeds to each, and what leads from each."""
+
+    def __init__(self, net):
+        self.net = net
+        self.depth = {}
+        self.steps = {}
+        level, many = {Model(net).state()}, 0
+        while level:
+            self.depth.update(dict.fromkeys(level, many))
+            for state in level:
+                self.steps[state] = {deed: behind(net, state, deed) for deed in Model(net, state).deeds()}
+            level = {later for state in level for later in self.steps[state].values()} - set(self.depth)
+            many += 1
+        self.rushes = {}
+
+    def soonest(self):
+        """A dict from each wish that is broken to the least number of deeds by which it is."""
+        found = {}
+        for state, depth in self.depth.items():
+            rows = [(wish, depth) for wish in broken_in(self.net, state)]
+            rows += [(wish, depth + 1) for deed in self.steps[state]
+                     for wish in broken_through(self.net, state, deed)]
+            for wish, many in rows:
+                found[wish] = min(many, found.get(wish, many))
+        return found
+
+    def longest_rush(self):
+        return max(self.rush(state) for state in self.steps)
+
+    def rush(self, state):
+        """The length of the longest rush from a state."""
+        if state not in self.rushes:
+            ahead = [self.steps[state][deed] for deed in self.steps[state] if deed[0] == "tell"]
+            self.rushes[state] = max((1 + self.rush(later) for later in ahead if later != state), default=0)
+        return self.rushes[state]
+
+
+ACCOUNTS = {}
+
+
+def many_and_soonest(net):
+    """How many states come about, and what `soonest` tells; reckoned once for each net."""
+    key = (net.hosts, net.ties, net.weak, net.endless, net.split, net.cry, net.hold)
+    if key not in ACCOUNTS:
+        account = Account(net)
+        ACCOUNTS[key] = len(account.steps), account.soonest()
+    return ACCOUNTS[key]
+
+
+def closure(net, states):
+    """These states and all to which deeds lead from them, however many."""
+    found, fresh = set(states), list(states)
+    while fresh:
+        state = fresh.pop()
+        later = {behind(net, state, deed) for deed in Model(net, state).deeds()} - found
+        fresh += later
+        found |= later
+    return found
+
+
+def is_safe_list(net, wish, states):
+    """Whether a list of states is as in a Safe, told in the words of the document."""
+    held = set(states)
+    if Model(net).state() not in held or closure(net, held) != held:
+        return False
+    return not any(wish in broken_in(net, state) or wish in broken_through(net, state, deed)
+                   for state in held for deed in [*Model(net, state).deeds(), ("none",)])
+
+
+def ends_broken(net, wish, weaving):
+    """Whether a weaving is as in a Broken, told in the words of the document."""
+    model, broken = Model(net), set()
+    for deed in weaving:
+        if deed not in model.deeds():
+            return False
+        state = model.state()
+        model.do(deed)
+        broken = broken_through(net, state, deed) | broken_in(net, model.state())
+    return wish in broken

@@ -3,13 +3,25 @@
 import inspect
 import unittest
 
-from hearsayways import nets, tables
+from hearsayways import choosing, judging, nets, settling, tables
+from hearsayways.choosing import Cheapest, NoRules
+from hearsayways.judging import Broken, Safe
 from hearsayways.nets import Net
+from hearsayways.settling import Longest
 
 FUNCTIONS = {
     tables: {
         "first_state": "(net)", "deeds": "(net, state)", "truly": "(net, state)", "after": "(net, state, deed)",
         "woven": "(net, history)", "all_states": "(net)",
+    },
+    judging: {
+        "judge": "(net, wish)", "is_safe": "(net, wish)", "soonest": "(net, wish)", "broken_by": "(net, history)",
+        "settled": "(net, state)",
+    },
+    settling: {"longest": "(net)", "longest_rush": "(net)"},
+    choosing: {
+        "choices": "(net, prices)", "chosen": "(net, prices, choice)", "cheapest": "(net, prices, hopes)",
+        "least_cost": "(net, prices, hopes)",
     },
 }
 METHODS = {
@@ -18,6 +30,13 @@ METHODS = {
         "__eq__": None, "__len__": None, "__getitem__": None, "__iter__": None,
         "but": "(self, name, thing)", "with_weak": "(self, weak)",
     },
+    Safe: {"__init__": "(self, states)", "__eq__": None, "shows": "(self, net, wish)"},
+    Broken: {"__init__": "(self, weaving)", "__eq__": None, "shows": "(self, net, wish)"},
+    Longest: {"__init__": "(self, ahead, rush, numbers)", "__eq__": None, "shows": "(self, net)"},
+    Cheapest: {
+        "__init__": "(self, choice, states, against)", "__eq__": None, "shows": "(self, net, prices, hopes)",
+    },
+    NoRules: {"__init__": "(self, against)", "__eq__": None, "shows": "(self, net, prices, hopes)"},
 }
 
 
@@ -39,4 +58,7 @@ class Interface(unittest.TestCase):
                         self.assertEqual(str(inspect.signature(vars(made)[name])), arguments)
 
     def test_classes_are_defined_in_their_file(self):
-        self.assertEqual(Net.__module__, nets.__name__)
+        files = {Net: nets, Safe: judging, Broken: judging, Longest: settling, Cheapest: choosing, NoRules: choosing}
+        self.assertEqual(set(files), set(METHODS))
+        for made, module in files.items():
+            self.assertEqual(made.__module__, module.__name__)

@@ -6,11 +6,7 @@ from hearsayways.errors import BadDeed, BadNet, BadState, BadWeaving, TooLarge
 from hearsayways.nets import Net
 from hearsayways.tables import after, all_states, deeds, first_state, truly, woven
 
-LINE = Net(3, ((0, 1), (1, 2)), weak=(0,))
-LONG = Net(4, ((0, 1), (1, 2), (2, 3)), weak=(0, 1, 2), endless=5)
-RING = Net(3, ((0, 1), (0, 2), (1, 2)), weak=(0, 1, 2))
-PAIR = Net(2, ((0, 1),), weak=(0,))
-NO_NETS = [None, True, 3, "net", (3, ((0, 1), (1, 2))), [], {}, Net, object()]
+from tests.samples import LINE, LONG, NO_NETS, PAIR, RING
 
 
 class Examples(unittest.TestCase):
