@@ -1,6 +1,6 @@
 """What arguments and evidence have to be: nets, states, deeds, and what consists of them."""
 
-from hearsayways.errors import BadNet, BadState
+from hearsayways.errors import BadHost, BadNet, BadState
 from hearsayways.kinds import is_group, is_integer, is_within
 from hearsayways.nets import Net
 from hearsayways.steps import behind, leads, possible, standing_pairs, start
@@ -10,6 +10,12 @@ def need_net(net):
     """Refuses what is not a Net."""
     if not isinstance(net, Net):
         raise BadNet(None)
+
+
+def need_host(net, host):
+    """Refuses what is not the number of a host other than 0."""
+    if not is_within(host, 1, net.hosts - 1):
+        raise BadHost("not the number of a host other than 0")
 
 
 def are_standing(net, stands):

@@ -115,6 +115,17 @@ def least_ties(net, stands):
     return least
 
 
+def distances(state):
+    """The distances of all hosts, 0 for the host 0."""
+    entries, _ = state
+    return [0] + [entry[0] for entry in entries]
+
+
 def true_distances(net, stands):
     """The true distances of all hosts: their least numbers of ties, at most the endless distance."""
     return [net.endless if many is None else min(many, net.endless) for many in least_ties(net, stands)]
+
+
+def are_true(net, state):
+    """Whether the distances of all hosts are the true ones."""
+    return distances(state) == true_distances(net, state[1])

@@ -6,26 +6,31 @@ from hearsayways.steps import leads, start
 MOST_STATES = 800
 
 
-def walked(net):
-    """Two dicts from all states that come about, those behind fewer deeds first.
+def explored(first, ahead_of, most):
+    """Two dicts from all states, or posts, to which deeds lead from the first one on, those behind fewer deeds first.
 
-    The first one goes to what leads from the state, the second one to the state and the deed from which one came to
-    it first, None for the first state.
+    What leads from one is told by a function. The first dict goes to this, the second one to the pair of that from
+    which one came to it first, and the deed, None for the first one. There are at most so many, unless this is None.
     """
-    found = [start(net)]
-    origins = {found[0]: None}
+    found = [first]
+    origins = {first: None}
     links = {}
     while len(links) < len(found):
         state = found[len(links)]
-        ahead = leads(net, state)
+        ahead = ahead_of(state)
         for deed, later in ahead:
             if later not in origins:
                 origins[later] = (state, deed)
                 found.append(later)
-        if len(found) > MOST_STATES:
-            raise TooLarge("more than 800 states come about")
+        if most is not None and len(found) > most:
+            raise TooLarge("too many states come about")
         links[state] = ahead
     return links, origins
+
+
+def walked(net):
+    """The two dicts of `explored` for all states that come about."""
+    return explored(start(net), lambda state: leads(net, state), MOST_STATES)
 
 
 def come_about(net):
@@ -35,7 +40,7 @@ def come_about(net):
 
 
 def weaving_to(origins, state):
-    """A weaving to a state with as few deeds as possible."""
+    """The deeds by which one came to a state first."""
     back = []
     while origins[state] is not None:
         state, deed = origins[state]

@@ -1,7 +1,7 @@
 """What breaks a wish, and how soon, for arguments that are known to be right."""
 
 from hearsayways.checks import closed_links, states_along
-from hearsayways.steps import leads, least_ties, start, true_distances, way_of
+from hearsayways.steps import are_true, leads, least_ties, start, way_of
 from hearsayways.walks import weaving_to
 
 
@@ -28,8 +28,7 @@ def is_settled(state, ahead):
 
 def is_wrong(net, state, ahead):
     """Whether a state is settled, and a distance in it is not the true one."""
-    entries, stands = state
-    return is_settled(state, ahead) and [entry[0] for entry in entries] != true_distances(net, stands)[1:]
+    return is_settled(state, ahead) and not are_true(net, state)
 
 
 def state_breaks(net, wish, state, ahead):

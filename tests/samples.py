@@ -36,3 +36,9 @@ def varied_nets():
     for at, shape in enumerate(model.shapes(4)):
         if at % 10 == 0:
             yield Net(shape[0], shape[1], weak=shape[2], **model.RULES[at * 7 // 10 % len(model.RULES)])
+
+
+# What is no host of LINE, or only the host 0.
+NO_HOSTS = [
+    0, -1, 3, 4, 10 ** 30, None, True, False, "1", b"1", "", [], [1], (1,), {}, {1: 1}, {1}, 1 + 0j, object(), len, Net,
+]

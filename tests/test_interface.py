@@ -3,10 +3,13 @@
 import inspect
 import unittest
 
-from hearsayways import choosing, judging, nets, settling, tables
+from hearsayways import choosing, hearing, judging, letters, nets, pictures, settling, tables
 from hearsayways.choosing import Cheapest, NoRules
+from hearsayways.hearing import Ends
 from hearsayways.judging import Broken, Safe
+from hearsayways.letters import Fates
 from hearsayways.nets import Net
+from hearsayways.pictures import Alike, Parted, Pictures
 from hearsayways.settling import Longest
 
 FUNCTIONS = {
@@ -23,6 +26,11 @@ FUNCTIONS = {
         "choices": "(net, prices)", "chosen": "(net, prices, choice)", "cheapest": "(net, prices, hopes)",
         "least_cost": "(net, prices, hopes)",
     },
+    letters: {"fates": "(net, host, hops)", "fated": "(net, host, hops)", "most_hops": "(net, host, hops)"},
+    pictures: {
+        "pictures": "(net)", "pictured": "(net)", "compare": "(one, other)", "are_alike": "(one, other)",
+    },
+    hearing: {"ends": "(net, host, log)", "standing": "(net, host, log)", "next_heard": "(net, host, log)"},
 }
 METHODS = {
     Net: {
@@ -37,6 +45,13 @@ METHODS = {
         "__init__": "(self, choice, states, against)", "__eq__": None, "shows": "(self, net, prices, hopes)",
     },
     NoRules: {"__init__": "(self, against)", "__eq__": None, "shows": "(self, net, prices, hopes)"},
+    Fates: {"__init__": "(self, journeys, posts)", "__eq__": None, "shows": "(self, net, host, hops)"},
+    Pictures: {"__init__": "(self, weavings, states)", "__eq__": None, "shows": "(self, net)"},
+    Alike: {"__init__": "(self, one, other)", "__eq__": None, "shows": "(self, one, other)"},
+    Parted: {
+        "__init__": "(self, picture, number, weaving, states)", "__eq__": None, "shows": "(self, one, other)",
+    },
+    Ends: {"__init__": "(self, ends, layers)", "__eq__": None, "shows": "(self, net, host, log)"},
 }
 
 
@@ -58,7 +73,8 @@ class Interface(unittest.TestCase):
                         self.assertEqual(str(inspect.signature(vars(made)[name])), arguments)
 
     def test_classes_are_defined_in_their_file(self):
-        files = {Net: nets, Safe: judging, Broken: judging, Longest: settling, Cheapest: choosing, NoRules: choosing}
+        files = {Net: nets, Safe: judging, Broken: judging, Longest: settling, Cheapest: choosing, NoRules: choosing,
+                 Fates: letters, Pictures: pictures, Alike: pictures, Parted: pictures, Ends: hearing}
         self.assertEqual(set(files), set(METHODS))
         for made, module in files.items():
             self.assertEqual(made.__module__, module.__name__)
