@@ -7,10 +7,11 @@ MOST_STATES = 800
 
 
 def explored(first, ahead_of, most):
-    """Two dicts from all states, or posts, to which deeds lead from the first one on, those behind fewer deeds first.
+    """Two dicts from all states (or posts) to which deeds lead from the first one on, those behind fewer deeds first.
 
-    What leads from one is told by a function. The first dict goes to this, the second one to the pair of that from
-    which one came to it first, and the deed, None for the first one. There are at most so many, unless this is None.
+    The first dict goes to what `ahead_of` gives for the state: the pairs of each deed and the state behind it. The
+    second one goes to the state and the deed from which one came to it first, None for the first state. More states
+    than `most` are too many, unless this is None.
     """
     found = [first]
     origins = {first: None}

@@ -3,13 +3,17 @@
 import inspect
 import unittest
 
-from hearsayways import choosing, hearing, judging, letters, nets, pictures, settling, tables
+from hearsayways import (
+    choosing, desks, harming, hearing, judging, letters, nets, pictures, righting, settling, tables, texts)
 from hearsayways.choosing import Cheapest, NoRules
+from hearsayways.desks import LiveNet
+from hearsayways.harming import Harm, NoHarm
 from hearsayways.hearing import Ends
 from hearsayways.judging import Broken, Safe
 from hearsayways.letters import Fates
 from hearsayways.nets import Net
 from hearsayways.pictures import Alike, Parted, Pictures
+from hearsayways.righting import Lost, Righted
 from hearsayways.settling import Longest
 
 FUNCTIONS = {
@@ -31,6 +35,16 @@ FUNCTIONS = {
         "pictures": "(net)", "pictured": "(net)", "compare": "(one, other)", "are_alike": "(one, other)",
     },
     hearing: {"ends": "(net, host, log)", "standing": "(net, host, log)", "next_heard": "(net, host, log)"},
+    texts: {
+        "net_text": "(net)", "weaving_text": "(net, history)", "read_net": "(text)", "read_weaving": "(net, text)",
+    },
+    harming: {
+        "harm": "(net, rates, wish)", "least_harm": "(net, rates, wish)", "weaving_price": "(net, rates, weaving)",
+    },
+    righting: {
+        "right": "(net, state)", "can_right": "(net, state)", "fewest_tells": "(net, state)",
+        "is_right": "(net, state)",
+    },
 }
 METHODS = {
     Net: {
@@ -52,6 +66,15 @@ METHODS = {
         "__init__": "(self, picture, number, weaving, states)", "__eq__": None, "shows": "(self, one, other)",
     },
     Ends: {"__init__": "(self, ends, layers)", "__eq__": None, "shows": "(self, net, host, log)"},
+    LiveNet: {
+        "__init__": "(self, net)", "__len__": "(self)", "__call__": "(self, deed)", "now": None, "journal": None,
+        "able_now": "(self)", "way": "(self, host)", "undo": "(self)", "branch": "(self)", "trial": "(self)",
+        "attempt": "(self, work)", "tried": "(self, history)",
+    },
+    Harm: {"__init__": "(self, price, weaving, floors)", "__eq__": None, "shows": "(self, net, rates, wish)"},
+    NoHarm: {"__init__": "(self, states)", "__eq__": None, "shows": "(self, net, rates, wish)"},
+    Righted: {"__init__": "(self, tells, levels)", "__eq__": None, "shows": "(self, net, state)"},
+    Lost: {"__init__": "(self, states)", "__eq__": None, "shows": "(self, net, state)"},
 }
 
 
@@ -74,7 +97,8 @@ class Interface(unittest.TestCase):
 
     def test_classes_are_defined_in_their_file(self):
         files = {Net: nets, Safe: judging, Broken: judging, Longest: settling, Cheapest: choosing, NoRules: choosing,
-                 Fates: letters, Pictures: pictures, Alike: pictures, Parted: pictures, Ends: hearing}
+                 Fates: letters, Pictures: pictures, Alike: pictures, Parted: pictures, Ends: hearing,
+                 LiveNet: desks, Harm: harming, NoHarm: harming, Righted: righting, Lost: righting}
         self.assertEqual(set(files), set(METHODS))
         for made, module in files.items():
             self.assertEqual(made.__module__, module.__name__)
